@@ -1,0 +1,1 @@
+"""A receiver in complex halves."""
