@@ -15,6 +15,7 @@ TOO_GREAT = 0x10000000000
 SIGN_BIT = 0x8000
 EXPONENT_BITS = 0x7C00
 FRACTION_BITS = 0x03FF
+ALL_BUT_SIGN = 0x7FFF
 
 
 def is_finite(bits):
@@ -29,6 +30,11 @@ def value_of(bits):
     if exponent:
         size = (size + 1024) << (exponent - 1)
     return -size if bits & SIGN_BIT else size
+
+
+def size_of(bits):
+    """The value of a half without its sign."""
+    return value_of(bits & ALL_BUT_SIGN)
 
 
 def bits_of(value):
@@ -55,14 +61,18 @@ def negated(value):
     return value_of(bits_of(value) ^ SIGN_BIT)
 
 
+def without_lowest(total, dropped):
+    """total divided by 2^dropped, made whole, to the nearest, of two as near the even one."""
+    return (total + (1 << (dropped - 1)) - 1 + ((total >> dropped) & 1)) >> dropped
+
+
 def nearest(total):
     """The half nearest to total times 2^-48, of two as near the one whose last bit is 0."""
     # A half has eleven bits, but none worth less than 2^-24.
     dropped = total.bit_length() - 11
     if dropped < 24:
         dropped = 24
-    kept = (total + (1 << (dropped - 1)) - 1 + ((total >> dropped) & 1)) >> dropped
-    value = kept << (dropped - 24)
+    value = without_lowest(total, dropped) << (dropped - 24)
     if value == 0:
         return MINUS_ZERO if total < 0 else 0
     if value >= TOO_GREAT:

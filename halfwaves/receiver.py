@@ -1,12 +1,24 @@
 """The calls on a receiver, one behind another in one list, and their answers."""
 
+from halfwaves.amounts import level_of
+from halfwaves.amounts import levelled
+from halfwaves.amounts import power
+from halfwaves.amounts import sizes
+from halfwaves.halves import EXPONENT_BITS
+from halfwaves.halves import bits_of
 from halfwaves.halves import is_finite
 from halfwaves.halves import value_of
 from halfwaves.likeness import alike
+from halfwaves.likeness import strongest
 from halfwaves.pairs import pairs_of
 from halfwaves.pairs import row_of
 from halfwaves.state import Receiver
+from halfwaves.symbols import read_row
+from halfwaves.symbols import written_row
+from halfwaves.twists import all_twisted
 from halfwaves.waves import transformed
+from halfwaves.wholes import halves_of
+from halfwaves.wholes import wholes_of
 
 DONE = 0
 
@@ -56,30 +68,122 @@ def call_alike(receiver, numbers, rows):
     return [DONE] + row_of([alike(pairs_of(rows[0]), pairs_of(rows[1]))])
 
 
-def without_range(numbers):
+def call_power(receiver, numbers, rows):
+    return [DONE, power(rows[0])]
+
+
+def call_find(receiver, numbers, rows):
+    found = strongest(pairs_of(rows[0]), pairs_of(rows[1]))
+    return [found[0], bits_of(found[1])]
+
+
+def call_level(receiver, numbers, rows):
+    level = level_of(rows[0])
+    if level < 0:
+        return [-5]
+    return [level] + levelled(rows[0], level)
+
+
+def call_size(receiver, numbers, rows):
+    return [DONE] + sizes(rows[0])
+
+
+def call_twist(receiver, numbers, rows):
+    return [DONE] + row_of(all_twisted(numbers[1], pairs_of(rows[0]), pairs_of(rows[1]), pairs_of(rows[2])))
+
+
+def call_read(receiver, numbers, rows):
+    return [DONE] + read_row(rows[0], rows[1][0])
+
+
+def call_write(receiver, numbers, rows):
+    return [DONE] + written_row(rows[0], rows[1][0])
+
+
+def call_whole(receiver, numbers, rows):
+    return [DONE] + wholes_of(rows[0], numbers[1])
+
+
+def call_half(receiver, numbers, rows):
+    return [DONE] + halves_of(rows[0], numbers[1])
+
+
+def without_range(numbers, rows):
     return True
 
 
-def count_in_range(numbers):
+def count_fits(numbers, rows):
     return 1 <= numbers[0] <= 256
 
 
-def way_in_range(numbers):
+def wave_way_fits(numbers, rows):
     return 0 <= numbers[0] <= 1
 
 
-# By a call's number: how many whole numbers it has, how many rows, the range of the numbers, what it does.
+def code_fits(numbers, rows):
+    return count_fits(numbers, rows) and 1 <= numbers[1] <= numbers[0]
+
+
+def twist_way_fits(numbers, rows):
+    return count_fits(numbers, rows) and 0 <= numbers[1] <= 3
+
+
+def shift_fits(numbers, rows):
+    return count_fits(numbers, rows) and 0 <= numbers[1] <= 15
+
+
+def first_row_fits(numbers, rows):
+    # write's n isn't among its numbers: it is how many numbers its first row has.
+    return 1 <= len(rows[0]) <= 256
+
+
+def any_rows(rows):
+    return True
+
+
+def row_finite(row):
+    return all([is_finite(half) for half in row])
+
+
+def rows_finite(rows):
+    return all([row_finite(row) for row in rows])
+
+
+def is_unit(half):
+    # Infinity's bits are those of the exponent alone; those of all finite halves above 0 are less.
+    return 0 < half < EXPONENT_BITS
+
+
+def signal_and_unit(rows):
+    return row_finite(rows[0]) and is_unit(rows[1][0])
+
+
+def symbols_and_unit(rows):
+    return all([bits < 16 for bits in rows[0]]) and is_unit(rows[1][0])
+
+
+# By a call's number: how many whole numbers it has, how many rows, the range of the numbers, what the rows must be,
+# what it does.
 CALLS = (
-    (0, 0, without_range, call_begin),
-    (0, 1, without_range, call_taps),
-    (0, 1, without_range, call_rate),
-    (0, 2, without_range, call_phase),
-    (1, 1, count_in_range, call_filter),
-    (1, 2, count_in_range, call_learn),
-    (1, 1, count_in_range, call_turn),
-    (0, 0, without_range, call_told),
-    (1, 1, way_in_range, call_transform),
-    (1, 2, count_in_range, call_alike),
+    (0, 0, without_range, any_rows, call_begin),
+    (0, 1, without_range, rows_finite, call_taps),
+    (0, 1, without_range, rows_finite, call_rate),
+    (0, 2, without_range, rows_finite, call_phase),
+    (1, 1, count_fits, rows_finite, call_filter),
+    (1, 2, count_fits, rows_finite, call_learn),
+    (1, 1, count_fits, rows_finite, call_turn),
+    (0, 0, without_range, any_rows, call_told),
+    (1, 1, wave_way_fits, rows_finite, call_transform),
+    (1, 2, count_fits, rows_finite, call_alike),
+    (1, 1, count_fits, rows_finite, call_power),
+    (2, 2, code_fits, rows_finite, call_find),
+    (1, 1, count_fits, rows_finite, call_level),
+    (1, 1, count_fits, rows_finite, call_size),
+    (2, 3, twist_way_fits, rows_finite, call_twist),
+    (1, 2, count_fits, signal_and_unit, call_read),
+    (0, 2, first_row_fits, symbols_and_unit, call_write),
+    (2, 1, shift_fits, rows_finite, call_whole),
+    (2, 1, shift_fits, any_rows, call_half),
 )
 
 
@@ -102,17 +206,14 @@ class CallList:
         return self.calls[self.place - length:self.place]
 
 
-def all_finite(row):
-    return all([is_finite(half) for half in row])
-
-
 def answer(receiver, call, numbers, rows):
     """The answer to one call, an entry of CALLS; a refusal comes ahead of all that changes."""
     in_range = call[2]
-    act = call[3]
-    if not in_range(numbers):
+    as_told = call[3]
+    act = call[4]
+    if not in_range(numbers, rows):
         return [-2]
-    if not all([all_finite(row) for row in rows]):
+    if not as_told(rows):
         return [-3]
     return act(receiver, numbers, rows)
 

@@ -15,6 +15,7 @@ MINUS = 0x8000
 LARGE = 2147483647
 SMALL = -2147483648
 BAD_COUNTS = (0, 257, -1, -256, 65536, SMALL, LARGE)
+BAD_SHIFTS = (-1, 16, 17, 32, SMALL, LARGE)
 NOT_FINITE = (0x7C00, 0xFC00, 0x7E00, 0xFE00, 0x7C01, 0xFFFF)
 FRESH = [0x3C00] + [0] * 31 + [0] * 30 + [0] + [0x3C00, 0] + [0x3C00, 0]
 
@@ -73,6 +74,42 @@ def transform(way, signal):
 
 def alike(a, b):
     return [9, len(a) // 2] + row(a) + row(b)
+
+
+def power(a):
+    return [10, len(a) // 2] + row(a)
+
+
+def find(a, code):
+    return [11, len(a) // 2, len(code) // 2] + row(a) + row(code)
+
+
+def level(a):
+    return [12, len(a) // 2] + row(a)
+
+
+def size(a):
+    return [13, len(a) // 2] + row(a)
+
+
+def twist(way, a, b, c):
+    return [14, len(a) // 2, way] + row(a) + row(b) + row(c)
+
+
+def read(a, unit):
+    return [15, len(a) // 2] + row(a) + row([unit])
+
+
+def write(bits, unit):
+    return [16] + row(bits) + row([unit])
+
+
+def make_whole(shift, a):
+    return [17, len(a) // 2, shift] + row(a)
+
+
+def make_half(shift, a):
+    return [18, len(a) // 2, shift] + row(a)
 
 
 def each_answer(*calls):
@@ -284,3 +321,83 @@ def model_alike(a, b):
         for i in range(reach):
             sums[i] = both(model_sum, sums[i], sums[i + reach])
     return list(sums[0])
+
+
+def model_power(a):
+    sums = [0] * 32
+    for e, number in enumerate(a):
+        sums[e % 32] = model_fused(sums[e % 32], number, number)
+    for reach in (16, 8, 4, 2, 1):
+        for i in range(reach):
+            sums[i] = model_sum(sums[i], sums[i + reach])
+    return [sums[0]]
+
+
+def model_strength(z):
+    return model_fused(model_product(z[1], z[1]), z[0], z[0])
+
+
+def model_find(a, code):
+    strengths = [model_strength(model_alike(a[k:k + len(code)], code)) for k in range(0, len(a) - len(code) + 1, 2)]
+    # The bits of halves without a minus are in the order of the halves.
+    ranks = [-1 if is_nan(strength) else strength for strength in strengths]
+    place = ranks.index(max(ranks))
+    return [place, strengths[place]]
+
+
+def model_level(a):
+    """The whole answer, the level first; all of a being 0 is refused."""
+    greatest = max(abs(exact(number)) for number in a)
+    if greatest == 0:
+        return [-5]
+    e = next(e for e in range(-24, 16) if Fraction(2) ** e <= greatest < Fraction(2) ** (e + 1))
+    return [e + 24] + [rounded(exact(number) / Fraction(2) ** e, number & MINUS) for number in a]
+
+
+def model_size(a):
+    result = []
+    for number in pairs(a):
+        sizes = sorted(abs(exact(part)) for part in number)
+        result.append(rounded(Fraction(3, 8) * sizes[0] + sizes[1], 0))
+    return result
+
+
+# By way: what the product's sign and the third number's become, of the real parts, then of the others.
+TWIST_SIGNS = (
+    ((0, MINUS), (0, 0)), ((0, 0), (0, MINUS)), ((MINUS, 0), (MINUS, 0)), ((MINUS, MINUS), (MINUS, MINUS)),
+)
+
+
+def model_twist(way, a, b, c):
+    result = []
+    for k in range(len(a)):
+        of_product, of_third = TWIST_SIGNS[way][k % 2]
+        result.append(model_fused(c[k] ^ of_third, a[k] ^ of_product, b[k]))
+    return result
+
+
+def model_read(a, unit):
+    limit = rounded(2 * exact(unit), 0)
+    result = []
+    for number in pairs(a):
+        bits = [part for half in number for part in (exact(half) < 0, half & 0x7FFF < limit)]
+        result.append(sum(1 << k for k in range(4) if bits[k]))
+    return result
+
+
+def model_write(symbols, unit):
+    far = rounded(3 * exact(unit), 0)
+    result = []
+    for symbol in symbols:
+        for bits in (symbol % 4, symbol // 4):
+            result.append((unit if bits >= 2 else far) + bits % 2 * MINUS)
+    return result
+
+
+def model_whole(shift, a):
+    return [max(-32768, min(32767, round(exact(number) * 2 ** shift))) % 65536 for number in a]
+
+
+def model_half(shift, a):
+    signed = [number - 65536 if number >= 32768 else number for number in a]
+    return [rounded(Fraction(number, 2 ** shift), 0) for number in signed]

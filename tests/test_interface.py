@@ -4,9 +4,34 @@ import unittest
 
 from halfwaves.receiver import answers
 from tests.helper import (
-    BEGIN, FRESH, TOLD, Model, Numbers, alike, each_answer, halves, learn, model_alike, model_transform, pairs, phase,
-    rate, row, run_filter, taps, transform, turn,
+    BEGIN, FRESH, TOLD, Model, Numbers, alike, each_answer, find, halves, learn, level, make_half, make_whole,
+    model_alike, model_find, model_half, model_level, model_power, model_read, model_size, model_transform, model_twist,
+    model_whole, model_write, pairs, phase, power, rate, read, row, run_filter, size, taps, transform, turn, twist,
+    write,
 )
+
+
+def free_calls(seed):
+    """Calls 8 to 18, each with the answer that is due."""
+    numbers = Numbers(seed)
+    made = lambda count: numbers.row_between(count, 0x2C00, 0x4400)
+    a, b, c, waves = made(40), made(40), made(40), made(32)
+    symbols = [numbers.below(16) for _ in range(20)]
+    whole_numbers = [numbers.below(65536) for _ in range(20)]
+    way, shift = numbers.below(4), numbers.below(16)
+    return [
+        (transform(way % 2, waves), [0] + model_transform(way % 2, waves)),
+        (alike(a, b), [0] + model_alike(a, b)),
+        (power(a), [0] + model_power(a)),
+        (find(a, b[:10]), model_find(a, b[:10])),
+        (level(a), model_level(a)),
+        (size(a), [0] + model_size(a)),
+        (twist(way, a, b, c), [0] + model_twist(way, a, b, c)),
+        (read(a, 0x3C00), [0] + model_read(a, 0x3C00)),
+        (write(symbols, 0x3555), [0] + model_write(symbols, 0x3555)),
+        (make_whole(shift, a), [0] + model_whole(shift, a)),
+        (make_half(shift, whole_numbers), [0] + model_half(shift, whole_numbers)),
+    ]
 
 
 def all_calls(seed):
@@ -17,8 +42,9 @@ def all_calls(seed):
         transform(1, made(32)), alike(made(6), made(6)), BEGIN, taps(made(32)), rate(made(1)[0]),
         phase(made(2), made(2)), run_filter(made(10)), learn(made(10), made(10)), turn(made(10)), TOLD,
         transform(0, made(32)), alike(made(40), made(40)), [4, 257, 0], rate(0x7E00), BEGIN,
-        learn(made(4), made(4)), TOLD,
+        learn(made(4), made(4)), TOLD, level([0, 0]), write([16], 0x3C00),
     ]
+    calls += [call for call, answer in free_calls(seed)] + [TOLD]
     return [number for call in calls for number in call]
 
 
@@ -36,13 +62,33 @@ class TheForm(unittest.TestCase):
         self.assertEqual(answers([0, 6, 1, 2, 0x3C00, 0x4000]), [1, 0, 3, 0, 0x3C00, 0x4000])
         self.assertEqual(answers([8, 0, 32] + [0] * 32), [33] + [0] * 33)
         self.assertEqual(answers([9, 1, 2, 0x3C00, 0, 2, 0x4000, 0]), [3, 0, 0x4000, 0])
+        self.assertEqual(answers([10, 1, 2, 0x4000, 0x3C00]), [2, 0, 0x4500])
+        self.assertEqual(answers([11, 2, 1, 4, 0, 0, 0x4000, 0, 2, 0x3C00, 0]), [2, 1, 0x4400])
+        self.assertEqual(answers([12, 1, 2, 0x4000, 0xBC00]), [3, 25, 0x3C00, 0xB800])
+        self.assertEqual(answers([13, 1, 2, 0x4000, 0xC800]), [2, 0, 0x4860])
+        self.assertEqual(answers([14, 1, 0, 2, 0x4000, 0x4000, 2, 0x4000, 0x4000, 2, 0x3C00, 0x3C00]),
+                         [3, 0, 0x4200, 0x4500])
+        self.assertEqual(answers([15, 2, 4, 0xBC00, 0x4200, 0x4200, 0x4200, 1, 0x3C00]), [3, 0, 3, 0])
+        self.assertEqual(answers([16, 1, 3, 1, 0x3C00]), [3, 0, 0xBC00, 0x4200])
+        self.assertEqual(answers([17, 1, 1, 2, 0x3C00, 0xBC00]), [3, 0, 2, 65534])
+        self.assertEqual(answers([18, 1, 1, 2, 2, 65534]), [3, 0, 0x3C00, 0xBC00])
 
     def test_a_refusal_is_its_number_alone(self):
         self.assertEqual(answers([9, 0, 0, 0]), [1, -2])
+        self.assertEqual(answers([12, 1, 2, 0, 0x8000]), [1, -5])
+        self.assertEqual(answers([16, 0, 1, 0x3C00]), [1, -2])
         self.assertEqual(answers([0, 4, -2147483648, 0, 2, 1, 0x7C00]), [1, 0, 1, -2, 1, -3])
 
     def test_a_refused_call_is_gone_through_to_its_end(self):
         self.assertEqual(answers([8, 5] + row([0x7C00] * 32) + [0]), [1, -2, 1, 0])
+        refused = [
+            [11, 2, 3] + row([0x7C00] * 4) + row([]), [14, 1, 4] + row([1, 2]) + row([3, 4]) + row([5, 6]),
+            [15, 0] + row([]) + row([0x3C00]), write([], 0x3C00), write([16, 16], 0), make_whole(16, [1, 2]),
+            make_half(16, [1, 2]), level([0, 0]), read([0x7C00, 0], 0x3C00),
+        ]
+        refusals = [-2, -2, -2, -2, -3, -2, -2, -5, -3]
+        for call, refusal in zip(refused, refusals):
+            self.assertEqual(answers(call + [0]), [1, refusal, 1, 0], call)
 
     def test_it_gives_back_a_list_of_whole_numbers(self):
         found = answers(all_calls(1))
@@ -85,6 +131,50 @@ class LongLists(unittest.TestCase):
         calls = BEGIN + run_filter(signal) * 58
         self.assertLessEqual(len(calls), 30000)
         self.assertEqual(answers(calls), [1, 0] + ([513, 0] + signal) * 58)
+
+
+    def test_300_calls_of_the_later_kinds(self):
+        self.assertEqual(answers([18, 1, 0, 2, 1, 65535] * 300), [3, 0, 0x3C00, 0xBC00] * 300)
+
+    def test_find_that_is_long_again_and_again(self):
+        call = find(halves(1, 0) * 256, halves(1, 0) * 128)
+        calls = call * (30000 // len(call))
+        self.assertEqual(answers(calls), [2, 0, 0x7400] * (30000 // len(call)))
+
+
+class TheFreeCalls(unittest.TestCase):
+    def check(self, asked):
+        self.assertEqual(each_answer(*[call for call, answer in asked]), [answer for call, answer in asked])
+
+    def test_where_no_begin_is(self):
+        for seed in range(4):
+            self.check(free_calls(seed))
+
+    def test_each_by_itself(self):
+        for asked in free_calls(5):
+            self.check([asked])
+
+    def test_ahead_of_begin_and_behind_it(self):
+        told = (TOLD, [0] + FRESH)
+        self.check(free_calls(6) + [(BEGIN, [0]), told] + free_calls(7) + [told])
+
+    def test_they_change_nothing_of_the_receiver(self):
+        numbers = Numbers(8)
+        made = lambda count: numbers.row_between(count, 0x2C00, 0x3C00)
+        calls = [BEGIN, taps(made(32)), rate(0x2C00), phase(made(2), made(2)), run_filter(made(40)),
+                 learn(made(20), made(20)), turn(made(20)), run_filter(made(6)), learn(made(6), made(6)), turn(made(6))]
+        alone = each_answer(*[part for call in calls for part in (call, TOLD)])
+        free = free_calls(9)
+        asked = list(free)
+        for k, call in enumerate(calls):
+            told = (TOLD, alone[2 * k + 1])
+            asked += [(call, alone[2 * k]), told, free[k], told, free[(k + 5) % 11], told]
+        self.check(asked + free + [(TOLD, alone[-1])])
+
+    def test_refused_ones_change_nothing_either(self):
+        told = (TOLD, [0] + FRESH)
+        refused = [(level([0, 0x8000]), [-5]), told, (write([16], 1), [-3]), told, (power([]), [-2]), told]
+        self.check([(BEGIN, [0])] + refused)
 
 
 class OneBehindAnother(unittest.TestCase):
